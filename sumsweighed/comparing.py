@@ -3,10 +3,17 @@
 from sumsweighed.measuring import (
     MOST_THINGS,
     Weighing,
+    agreed_sets,
     agreeing,
     agrees,
     all_numbers,
+    all_that_cancel,
     all_that_fit,
+    balance_of,
+    comes_to,
+    does_cancel,
+    is_clash,
+    is_how_often,
     is_kind,
     is_numbers,
     is_side,
@@ -124,8 +131,94 @@ def follows(weighing, given):
     return one_or_zero(len(agreeing(weighing.fitting, given)) == len(weighing.fitting))
 
 
-def not_built(weighing, given):
-    raise NotImplementedError("this call is not built yet")
+def may(weighing, given):
+    if not is_comparison(weighing, given):
+        return [NOT_RIGHT]
+    return one_or_zero(len(agreeing(weighing.fitting, given)) > 0)
+
+
+def more(weighing, given):
+    if max(given) >= weighing.things:
+        return [NONE_SUCH]
+    if len(weighing.fitting) == 0:
+        return [THERE_IS_NONE]
+    least_lead = min([numbers[given[0]] - numbers[given[1]] for numbers in weighing.fitting])
+    if least_lead > 0:
+        return [2]
+    return one_or_zero(least_lead == 0)
+
+
+def least_and_greatest(weighing, side):
+    if len(weighing.fitting) == 0:
+        return [THERE_IS_NONE]
+    found = [comes_to(side, numbers) for numbers in weighing.fitting]
+    return [min(found), max(found)]
+
+
+def range_of(weighing, given):
+    thing = given[0]
+    if thing >= weighing.things:
+        return [NONE_SUCH]
+    # A thing's number is what the side that has it alone comes to.
+    return least_and_greatest(weighing, side_of([thing], weighing.things))
+
+
+def sums(weighing, given):
+    if not is_side(given[0], weighing.things):
+        return [NOT_RIGHT]
+    return least_and_greatest(weighing, given[0])
+
+
+def clashes(weighing, given):
+    if len(weighing.fitting) > 0:
+        return [THERE_IS_NONE]
+    count = len(weighing.told)
+    agreed = agreed_sets(weighing.things, weighing.told)
+    found = [asked for asked in range(1 << count) if is_clash(agreed, asked, count)]
+    return [len(found)] + found
+
+
+def spare(weighing, given):
+    if len(weighing.fitting) == 0:
+        return [THERE_IS_NONE]
+    count = len(weighing.told)
+    agreed = agreed_sets(weighing.things, weighing.told)
+    everything = (1 << count) - 1
+    # Left out, one lets in just those numbers that agree with all but it.
+    these = [t for t in range(count) if everything - (1 << t) not in agreed]
+    return [len(these)] + these
+
+
+def cancels(weighing, given):
+    if not is_how_often(given[0], weighing.told):
+        return [NOT_RIGHT]
+    return one_or_zero(does_cancel(given[0], weighing.things, weighing.told))
+
+
+def cancel(weighing, given):
+    found = all_that_cancel(weighing.things, weighing.told)
+    if len(found) == 0:
+        return [THERE_IS_NONE]
+    # As in least: min takes the first of several with the least sum, and they stand in order.
+    how_often = min(found, key=sum)
+    return [sum(how_often)] + how_often
+
+
+def balance(weighing, given):
+    if not is_how_often(given[0], weighing.told):
+        return [NOT_RIGHT]
+    return [weighing.things] + balance_of(given[0], weighing.things, weighing.told)
+
+
+def look(weighing, given):
+    if given[0] >= len(weighing.told):
+        return [NONE_SUCH]
+    comparison = weighing.told[given[0]]
+    return [comparison[0]] + comparison[1] + comparison[2]
+
+
+def state(weighing, given):
+    return [weighing.things, len(weighing.told)]
 
 
 # By a call's number: what answers it, how many whole numbers it has, how many rows behind them.
@@ -141,17 +234,17 @@ CALLS = (
     (fits, 0, 1),
     (wrong, 0, 1),
     (follows, 1, 2),
-    (not_built, 1, 2),  # may
-    (not_built, 2, 0),  # more
-    (not_built, 1, 0),  # range_of
-    (not_built, 0, 1),  # sums
-    (not_built, 0, 0),  # clashes
-    (not_built, 0, 0),  # spare
-    (not_built, 0, 1),  # cancels
-    (not_built, 0, 0),  # cancel
-    (not_built, 0, 1),  # balance
-    (not_built, 1, 0),  # look
-    (not_built, 0, 0),  # state
+    (may, 1, 2),
+    (more, 2, 0),
+    (range_of, 1, 0),
+    (sums, 0, 1),
+    (clashes, 0, 0),
+    (spare, 0, 0),
+    (cancels, 0, 1),
+    (cancel, 0, 0),
+    (balance, 0, 1),
+    (look, 1, 0),
+    (state, 0, 0),
 )
 BEGIN = 0
 

@@ -9,8 +9,13 @@ NUMBERS = {
 }
 
 
+MOST_CALLS = 25
+
+
 def written(calls):
     """Calls such as ("tell", 0, [1, 0], [0, 1]) as one list of whole numbers."""
+    if len(calls) > MOST_CALLS:
+        raise ValueError("a line has at most 25 calls")
     line = []
     for name, *given in calls:
         line.append(NUMBERS[name])

@@ -13,6 +13,13 @@ LINE = [
     ("least",), ("nth", 1), ("fits", [3, 2, 1]), ("wrong", [1, 2, 1]), ("follows", 1, [1, 0, 0], [0, 1, 0]),
     ("untell", 0), ("ways",), ("begin", 9), ("tell", 0, [], []), ("begin", 1), ("ways",),
 ]
+SECOND_LINE = [
+    ("state",), ("begin", 3), ("tell", 0, [1, 0, 0], [0, 1, 0]), ("differ", 1, 0, 1, 1, 2),
+    ("may", 1, [0, 1, 0], [1, 0, 0]), ("more", 0, 1), ("range_of", 2), ("sums", [3, 0, 1]), ("spare",), ("clashes",),
+    ("cancel",), ("tell", 0, [0, 1, 0], [1, 0, 0]), ("clashes",), ("spare",), ("cancels", [1, 0, 1]), ("cancel",),
+    ("balance", [3, 2, 1]), ("look", 1), ("state",), ("more", 3, 0), ("look", 3), ("balance", [1]), ("untell", 2),
+    ("look", 1), ("state",),
+]
 
 
 def refuse(*given, **named):
@@ -66,14 +73,64 @@ class HowItIsWritten(unittest.TestCase):
             ],
         )
 
+    def test_number_by_number_of_the_later_calls(self):
+        self.assertEqual(
+            answers([
+                21,
+                0, 2,
+                1, 0, 2, 1, 0, 2, 0, 1,
+                11, 2, 2, 1, 0, 2, 0, 2,
+                12, 0, 1,
+                13, 1,
+                14, 2, 1, 1,
+                15,
+                16,
+                2, 0, 1, 0, 0, 1,
+                15,
+                16,
+                17, 2, 2, 1,
+                18,
+                19, 2, 1, 0,
+                20, 1,
+                20, 2,
+                21,
+                11, 0, 0, 0,
+                19, 0,
+            ]),
+            [
+                1, -11,
+                1, 0,
+                1, 0,
+                1, 1,
+                1, 2,
+                2, 1, 7,
+                2, 3, 15,
+                1, -33,
+                1, 0,
+                1, 1,
+                2, 1, 3,
+                1, -33,
+                1, 1,
+                3, 3, 2, 1,
+                3, 2, 1, -1,
+                5, 0, 0, 2, 2, 0,
+                1, -2,
+                2, 2, 2,
+                1, -22,
+                1, -22,
+            ],
+        )
+
     def test_rows_of_none_and_of_most_numbers(self):
         most = [4294967295] * 255
         for first, second in (([], []), (most, []), ([], most), (most, most)):
             self.assertEqual(
                 ask(("begin", 1), ("tell", 0, first, second), ("follows", 0, first, second), ("fits", first),
-                    ("wrong", second), ("ways",)),
-                [[0], [-22], [-22], [-22], [-22], [8]],
+                    ("wrong", second), ("may", 0, first, second), ("sums", first), ("ways",)),
+                [[0], [-22], [-22], [-22], [-22], [-22], [-22], [8]],
             )
+        for row, cancels, balance in (([], [0], [1, 0]), (most, [-22], [-22])):
+            self.assertEqual(ask(("begin", 1), ("cancels", row), ("balance", row)), [[0], cancels, balance])
 
     def test_rows_are_read_before_a_begin_too(self):
         # What stands in a row must not be taken for a call.
@@ -90,39 +147,44 @@ class HowItIsWritten(unittest.TestCase):
 
 class WhatIsGivenBack(unittest.TestCase):
     def test_whole_numbers_in_a_list(self):
-        answered = answers(written(LINE))
-        self.assertIs(type(answered), list)
-        self.assertEqual({type(number) for number in answered}, {int})
+        for calls in (LINE, SECOND_LINE):
+            answered = answers(written(calls))
+            self.assertIs(type(answered), list)
+            self.assertEqual({type(number) for number in answered}, {int})
 
     def test_the_same_again(self):
-        line = written(LINE)
-        first = answers(line)
-        self.assertEqual(answers(line), first)
-        self.assertEqual(answers(written([("ways",)])), [1, -11])
+        lines = [written(LINE), written(SECOND_LINE)]
+        first = [answers(line) for line in lines]
+        self.assertEqual([answers(line) for line in lines], first)
+        self.assertEqual(answers(written([("ways",), ("state",)])), [1, -11, 1, -11])
 
     def test_it_may_be_changed_without_harm(self):
-        line = written([("begin", 2), ("least",), ("nth", 0)])
-        first = answers(line)
-        kept = list(first)
-        first.clear()
-        self.assertEqual(answers(line), kept)
+        for calls in ([("begin", 2), ("least",), ("nth", 0)], SECOND_LINE):
+            line = written(calls)
+            first = answers(line)
+            kept = list(first)
+            first.clear()
+            self.assertEqual(answers(line), kept)
 
 
 class WhatIsHandedIn(unittest.TestCase):
     def test_it_is_as_it_was(self):
-        line = written(LINE)
-        before = list(line)
-        answers(line)
-        self.assertEqual(line, before)
+        for calls in (LINE, SECOND_LINE):
+            line = written(calls)
+            before = list(line)
+            answers(line)
+            self.assertEqual(line, before)
 
     def test_it_is_not_changed_for_a_while_either(self):
-        line = written(LINE)
-        self.assertEqual(answers(Unchanging(line)), answers(line))
+        for calls in (LINE, SECOND_LINE):
+            line = written(calls)
+            self.assertEqual(answers(Unchanging(line)), answers(line))
 
     def test_nothing_is_printed(self):
         out = io.StringIO()
         with contextlib.redirect_stdout(out), contextlib.redirect_stderr(out):
             answers(written(LINE))
+            answers(written(SECOND_LINE))
         self.assertEqual(out.getvalue(), "")
 
 

@@ -32,6 +32,13 @@ WORDS_NOT_USED = (
     "NamedTuple TypedDict TYPE_CHECKING abstractmethod"
 ).split()
 
+KEYWORDS = {
+    "sorted": ["key", "reverse"], "min": ["key", "default"], "max": ["key", "default"], "sum": ["start"],
+    "enumerate": ["start"], "zip": ["strict"],
+}
+WALKED_AT_ONCE = "zip enumerate reversed range items keys values".split()
+WALKERS = "list tuple dict sorted sum any all enumerate zip min max".split()
+
 
 def bound_names(tree):
     for node in ast.walk(tree):
@@ -117,6 +124,58 @@ class Language(unittest.TestCase):
                         self.assertIn(node.id, OWN_OF_PYTHON)
                     if isinstance(node, ast.Call) and isinstance(node.func, ast.Attribute):
                         self.assertIn(node.func.attr, METHODS + own_methods())
+
+    def test_no_name_hides_an_import_or_a_class(self):
+        for name, text, tree in each():
+            taken = [alias.name for node in ast.walk(tree) if isinstance(node, ast.ImportFrom) for alias in node.names]
+            classes = [node.name for node in ast.walk(tree) if isinstance(node, ast.ClassDef)]
+            with self.subTest(file=name):
+                self.assertEqual(sorted(set(taken) & set(bound_names(tree))), [])
+                self.assertEqual([one for one in classes if list(bound_names(tree)).count(one) > 1], [])
+
+    def test_each_name_is_bound_once_at_the_top(self):
+        for name, text, tree in each():
+            bound = [node.name for node in tree.body if isinstance(node, (ast.FunctionDef, ast.ClassDef))]
+            bound += [node.targets[0].id for node in tree.body if isinstance(node, ast.Assign)]
+            with self.subTest(file=name):
+                self.assertEqual(len(bound), len(set(bound)))
+
+    def test_parameters(self):
+        for name, text, tree in each():
+            for node in ast.walk(tree):
+                if isinstance(node, ast.arguments):
+                    with self.subTest(file=name, parameters=ast.unparse(node)):
+                        self.assertEqual([node.vararg, node.kwarg], [None, None])
+                        self.assertEqual(node.kwonlyargs + node.posonlyargs, [])
+
+    def test_keywords(self):
+        for name, text, tree in each():
+            for node in ast.walk(tree):
+                if isinstance(node, ast.Call) and isinstance(node.func, ast.Name) and node.func.id in OWN_OF_PYTHON:
+                    allowed = KEYWORDS.get(node.func.id, [])
+                    with self.subTest(file=name, call=ast.unparse(node)):
+                        self.assertEqual([one.arg for one in node.keywords if one.arg not in allowed], [])
+
+    def test_powers_are_written(self):
+        for name, text, tree in each():
+            for node in ast.walk(tree):
+                if isinstance(node, (ast.BinOp, ast.AugAssign)) and isinstance(node.op, ast.Pow):
+                    with self.subTest(file=name, power=ast.unparse(node)):
+                        self.assertIsInstance(node, ast.BinOp)
+                        self.assertIsInstance(node.right, ast.Constant)
+
+    def test_what_is_walked_at_once(self):
+        for name, text, tree in each():
+            walked = []
+            for node in ast.walk(tree):
+                if isinstance(node, (ast.For, ast.comprehension)):
+                    walked.append(node.iter)
+                if isinstance(node, ast.Call) and isinstance(node.func, ast.Name) and node.func.id in WALKERS:
+                    walked.extend(node.args)
+            for node in ast.walk(tree):
+                if isinstance(node, ast.Call) and ast.unparse(node.func).split(".")[-1] in WALKED_AT_ONCE:
+                    with self.subTest(file=name, call=ast.unparse(node)):
+                        self.assertIn(node, walked)
 
 
 if __name__ == "__main__":

@@ -35,9 +35,10 @@ class BeforeABegin(unittest.TestCase):
     def test_it_goes_ahead_of_all_other_refusals(self):
         calls = [
             ("tell", 3, [9], [7, 7]), ("differ", 3, 9, 9, 9, 9), ("untell", GREATEST), ("nth", GREATEST),
-            ("fits", []), ("wrong", [0]), ("follows", 3, [], [4]),
+            ("fits", []), ("wrong", [0]), ("follows", 3, [], [4]), ("may", 3, [], [4]), ("more", GREATEST, 9),
+            ("range_of", 9), ("sums", [4]), ("cancels", [4]), ("balance", [4]), ("look", GREATEST),
         ]
-        self.assertEqual(ask(*calls), [[-11]] * 7)
+        self.assertEqual(ask(*calls), [[-11]] * len(calls))
 
     def test_a_begin_behind_them_begins(self):
         self.assertEqual(ask(("ways",), ("tell", 0, [1], [0]), ("begin", 1), ("ways",)), [[-11], [-11], [0], [8]])
